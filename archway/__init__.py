@@ -1,0 +1,1 @@
+"""Archway: sentences about texts with calls and returns, kept behind edits."""
