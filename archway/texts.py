@@ -33,11 +33,16 @@ def has_label(labels, place):
     return 0 <= label < labels[KINDS.index(kind)]
 
 
-def check_text(labels, row):
-    """Raise an error if a row is not a text with these labels."""
+def check_labels(labels, row):
+    """Raise an error if a place of a row has not one of the labels."""
     for number, place in enumerate(row):
         if not has_label(labels, place):
             raise InvalidPlace(number)
+
+
+def check_text(labels, row):
+    """Raise an error if a row is not a text with these labels."""
+    check_labels(labels, row)
     fault = fault_of(row)
     if fault is not None:
         raise UnbalancedText(fault[1])

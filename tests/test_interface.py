@@ -7,6 +7,10 @@ FUNCTIONS = {
         "fault_of", "check_text", "arches", "depths", "is_balanced", "children_of", "row_of",
     ),
     "archway.notation": ("format_text", "parse_text"),
+    "archway.readers": ("fault", "value_behind", "value", "accepts"),
+    "archway.joined": ("denied", "joint"),
+    "archway.values": ("values", "numbered"),
+    "archway.shortest": ("lengths", "text_of", "shortest", "together", "parting"),
 }
 
 
