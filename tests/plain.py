@@ -173,3 +173,74 @@ def plain_text_of(reader, least, value):
                         behind = plain_text_of(reader, least, y)
                         return [("call", a)] + inside + [("return", b)] + behind
     raise AssertionError("no text has this value")
+
+
+def plain_steps(reader):
+    """List the steps of point 22 in their order, with the values of the texts."""
+    labels, numbers = reader[0], range(len(reader[3]))
+    return (
+        [("ahead", z) for z in numbers]
+        + [("behind", z) for z in numbers]
+        + [("around", a, b) for a in range(labels[1]) for b in range(labels[2])]
+    )
+
+
+def plain_led(reader, step, x):
+    """Tell the value to which a step leads a value."""
+    if step[0] == "ahead":
+        return reader[3][step[1]][x]
+    if step[0] == "behind":
+        return reader[3][x][step[1]]
+    return reader[4][step[1]][step[2]][x]
+
+
+def plain_contexts(reader):
+    """Find, in rounds, the steps that tell each pair of values apart (points 20 and 22)."""
+    numbers = range(len(reader[3]))
+    pairs = [(x, y) for x in numbers for y in numbers if x < y]
+    told = {pair: [] for pair in pairs if (pair[0] in reader[5]) != (pair[1] in reader[5])}
+    steps = plain_steps(reader)
+    more = True
+    while more:
+        more = {}
+        for x, y in pairs:
+            for step in steps if (x, y) not in told else ():
+                led = tuple(sorted((plain_led(reader, step, x), plain_led(reader, step, y))))
+                if led in told:
+                    more[x, y] = [step] + told[led]
+                    break
+        told.update(more)
+    return told
+
+
+def plain_leaders(reader):
+    """Find the lowest value that is alike to each value."""
+    told = plain_contexts(reader)
+    numbers = range(len(reader[3]))
+    return [min(y for y in numbers if y == x or (min(x, y), max(x, y)) not in told) for x in numbers]
+
+
+def plain_least(reader):
+    """Make the least reader as point 21 says it."""
+    labels, empty, letters, mul, wrap, accepted = plain_numbered(*plain_tables(reader))
+    leader = plain_leaders((labels, empty, letters, mul, wrap, accepted))
+    return plain_numbered(
+        labels,
+        leader[empty],
+        [leader[v] for v in letters],
+        lambda x, y: leader[mul[x][y]],
+        lambda a, b, x: leader[wrap[a][b][x]],
+        lambda x: x in accepted,
+    )
+
+
+def in_context(context, text):
+    """Apply the steps of a context to a text."""
+    for step in context:
+        if step[0] == "ahead":
+            text = step[1] + text
+        elif step[0] == "behind":
+            text = text + step[1]
+        else:
+            text = [("call", step[1])] + text + [("return", step[2])]
+    return text

@@ -127,17 +127,19 @@ def trees(accepted):
     return ruled(["dead"], products, arches, accepted)
 
 
-def long_chain(accepted):
+def long_chain(accepted, letters=("l",), more=None):
     """Values with the least lengths 126 + 62 = 188 and, by arches, 190 up to 204 (a0 to a8).
 
     The value "odd" is a letter behind a5 (198 + 1 = 199), "edge" is one behind a6 (200 + 1).
+    There may be more letters and products.
     """
     products = {(f"t{height}", f"t{height}"): f"d{height}" for height in range(5)}
     products.update({("t5", "t4"): "a0", ("a5", "l"): "odd", ("a6", "l"): "edge"})
+    products.update(more or {})
     arches = {(0, 0, f"d{height}"): f"t{height + 1}" for height in range(5)}
     arches.update({(0, 0, f"a{number}"): f"a{number + 1}" for number in range(8)})
     arches[(0, 0, "")] = "t0"
-    return ruled(["l"], products, arches, accepted)
+    return ruled(letters, products, arches, accepted)
 
 
 SMALL = (PARITY, DEPTH, UNIT_LAST, ONE_VALUE, NOTHING, FLIPS, RESETS)

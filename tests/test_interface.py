@@ -11,6 +11,9 @@ FUNCTIONS = {
     "archway.joined": ("denied", "joint"),
     "archway.values": ("values", "numbered"),
     "archway.shortest": ("lengths", "text_of", "shortest", "together", "parting"),
+    "archway.least": ("leaders", "least", "same_texts", "parting_context"),
+    "archway.meaning": ("is_valid", "depth_of", "size_of", "holds"),
+    "archway.parsing": ("read_sentence",),
 }
 
 
