@@ -1,8 +1,8 @@
 """Readers put together: denied readers, and two readers joined."""
 
-from archway.errors import DifferentLabels, TooManyValues
+from archway.errors import DifferentLabels
 from archway.readers import MOST_VALUES
-from archway.values import listed, reader_by, rules_of
+from archway.values import made_reader, rules_of
 
 
 def denied(reader):
@@ -21,11 +21,7 @@ def joined(kind, first, second, most):
     """Return two readers joined by a kind, with at most so many pairs as values."""
     if first[0] != second[0]:
         raise DifferentLabels("two readers with the same labels are joined")
-    rules = _pair_rules(kind, rules_of(first), rules_of(second))
-    found = listed(rules, most)
-    if found is None:
-        raise TooManyValues(f"texts have more than {most} pairs of values")
-    return reader_by(rules, found)
+    return made_reader(_pair_rules(kind, rules_of(first), rules_of(second)), most)
 
 
 def _pair_rules(kind, first, second):

@@ -3,7 +3,7 @@
 from archway.errors import DifferentLabels
 from archway.readers import MOST_VALUES
 from archway.shortest import text_of
-from archway.values import listed, numbered, reader_by
+from archway.values import made_reader, numbered
 
 
 def leaders(reader):
@@ -13,8 +13,7 @@ def leaders(reader):
 
 def least(reader):
     """Return the least reader of a reader."""
-    rules = _leader_rules(numbered(reader))
-    return reader_by(rules, listed(rules, MOST_VALUES))
+    return made_reader(_leader_rules(numbered(reader)), MOST_VALUES)
 
 
 def same_texts(first, second):

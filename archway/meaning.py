@@ -1,5 +1,6 @@
 """Sentences: which are valid, how deep and large they are, and whether they hold for a text."""
 
+from archway.bits import bits_of, is_among
 from archway.texts import KINDS, arches, has_label
 
 MOST_LINES = 60
@@ -93,18 +94,10 @@ def holds(sentence, text, sets):
     return meaning.is_true(len(sentence) - 1, [bits_of(places) for places in sets])
 
 
-def bits_of(places):
-    """Return a set of places as an integer: the bit of each of them is 1."""
-    found = 0
-    for place in places:
-        found |= 1 << place
-    return found
-
-
 class Meaning:
     """What the lines of a sentence say of one text.
 
-    Sets of places are integers (see `bits_of`), as `there` tries thousands of them.
+    Sets of places are integers (see `archway.bits`), as `there` tries thousands of them.
     """
 
     def __init__(self, sentence, text):
@@ -156,8 +149,3 @@ class Meaning:
         if name == "and":
             return self.places_where(numbers[0], sets) & self.places_where(numbers[1], sets)
         return self.places_with.get((name, numbers[0]), 0)
-
-
-def is_among(place, bits):
-    """Tell whether a place is in a set of places."""
-    return (bits >> place) & 1 == 1

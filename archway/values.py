@@ -5,6 +5,7 @@ Rules say how values are put together, whatever kind of values they are. They ar
 and `accepts(x)` are functions. A reader is made from rules by numbering their values.
 """
 
+from archway.errors import TooManyValues
 from archway.readers import MOST_VALUES
 
 
@@ -15,8 +16,7 @@ def values(reader, most):
 
 def numbered(reader):
     """Return the reader whose values are the positions in the list of values."""
-    rules = rules_of(reader)
-    return reader_by(rules, listed(rules, MOST_VALUES))
+    return made_reader(rules_of(reader), MOST_VALUES)
 
 
 def rules_of(reader):
@@ -68,6 +68,14 @@ def _add_wrapped(found, added, labels, wrap, most):
                 found[wrap(a, b, x)] = True
             if len(found) > most:
                 return
+
+
+def made_reader(rules, most):
+    """Return the numbered reader by rules, or raise an error if texts have more than `most` values."""
+    found = listed(rules, most)
+    if found is None:
+        raise TooManyValues(f"texts have more than {most} values")
+    return reader_by(rules, found)
 
 
 def reader_by(rules, found):

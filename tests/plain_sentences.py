@@ -68,6 +68,14 @@ def plain_size(sentence, number=-1):
     return 1 + sum(plain_size(sentence, part) for part in plain_parts(sentence[number]))
 
 
+def has_loose_set(sentence, sets, number=-1):
+    """Tell whether a set is neither given nor around somewhere."""
+    line = sentence[number]
+    if line[0] == "set":
+        return line[1] >= sets
+    return any(has_loose_set(sentence, sets + (line[0] == "there"), part) for part in plain_parts(line))
+
+
 def some_sentences(labels, count, seed, most_lines=14, most_depth=2, most_size=200):
     """Make so many valid sentences of many forms, the same ones each time."""
     chance = Random(seed)
@@ -222,3 +230,29 @@ def some_written(labels, names, count, seed, most_deep=5):
         return f"{sign} {place(names, 2)}"
 
     return [statement(names, chance.randrange(most_deep + 1)) for _ in range(count)]
+
+
+def rich_sentences(labels, count, seed, most_texts=5, most_depth=3):
+    """Make so many sentences that say several things of sets and labels, the same ones each time."""
+    chance = Random(seed)
+    places = [("set", 0), ("set", 1), ("set", 2), ("letter", 0), ("call", 0), ("return", labels[2] - 1)]
+    places += [("not", number) for number in range(6)]
+    found = []
+    while len(found) < count:
+        lines = places + [("and", chance.randrange(12), chance.randrange(12)) for _ in range(2)]
+        free = []
+        for _ in range(chance.randint(1, most_texts)):
+            name = chance.choice(["next", "next", "arch", "arch", "first", "last", "all", "nothing"])
+            many = {"next": 2, "arch": 2, "nothing": 0}.get(name, 1)
+            free.append(len(lines))
+            lines.append((name, *[chance.randrange(14) for _ in range(many)]))
+        while len(free) > 1 or chance.random() < 0.6:
+            name = chance.choice(["both", "both", "denied", "there"])
+            parts = [free.pop(chance.randrange(len(free))) for _ in range(1 + (name == "both" and len(free) > 1))]
+            if name == "both" and len(parts) == 1:
+                parts = parts * 2
+            free.append(len(lines))
+            lines.append((name, *parts))
+        if len(lines) <= 60 and plain_depth(lines) <= most_depth and plain_size(lines) <= 200:
+            found.append(tuple(lines))
+    return found

@@ -1,4 +1,7 @@
-"""Readers for the tests. All of them fit; the comments say what their values stand for."""
+"""Readers and sentences for the tests.
+
+All readers fit; the comments say what their values stand for.
+"""
 
 from itertools import product
 
@@ -144,3 +147,26 @@ def long_chain(accepted, letters=("l",), more=None):
 
 SMALL = (PARITY, DEPTH, UNIT_LAST, ONE_VALUE, NOTHING, FLIPS, RESETS)
 ALL = SMALL + (TURNS, FALLS, SHIFTS)
+
+# Sentences with so many values in the last line, and at most 60 in the others: labels, given
+# names, the written sentence and the number of values.
+EDGES = (
+    ((2, 1, 1), ["x", "y"], "some z ( next return 0 ( in x and not in z ) and next not in z in x )", 60),
+    (
+        (2, 1, 1), ["x", "y"],
+        "some z ( next not in z in y and next ( not in z and not call 0 ) not in z )", 61,
+    ),
+    (
+        (2, 1, 1), ["x", "y"],
+        "( some z ( next letter 0 in z and next in z ( in z and not in x ) ) and not arch in y not in x )", 60,
+    ),
+    (
+        (2, 1, 2), ["x", "y", "z"],
+        "( ( next call 0 not in y and next not in z not in z ) and not next in y letter 0 )", 61,
+    ),
+)
+# This has more than 60 values with one set, and 3 without.
+LARGE = (
+    "( ( next in x in x and next in x not in x ) and "
+    "( ( next not in x in x and next not in x not in x ) and ( arch in x in x and arch in x not in x ) ) )"
+)
