@@ -143,6 +143,37 @@ class Files(unittest.TestCase):
                         if isinstance(sign, (ast.Is, ast.IsNot)):
                             self.assertIsInstance(side, ast.Constant, where)
 
+    def test_what_is_iterated_at_once(self):
+        takers = "list tuple dict sorted sum any all enumerate zip min max len reversed map".split()
+        for path, source in self.sources.items():
+            parents = {}
+            for node in ast.walk(ast.parse(source)):
+                for part in ast.iter_child_nodes(node):
+                    parents[part] = node
+            for node, parent in parents.items():
+                if not isinstance(node, ast.Call):
+                    continue
+                name = getattr(node.func, "id", getattr(node.func, "attr", ""))
+                if name not in ("range", "zip", "enumerate", "reversed", "items", "keys", "values"):
+                    continue
+                if name == "values" and isinstance(node.func, ast.Name):
+                    continue
+                iterated = isinstance(parent, (ast.For, ast.comprehension)) and parent.iter is node
+                taken = isinstance(parent, ast.Call) and getattr(parent.func, "id", "") in takers
+                kept = name == "range" and isinstance(parent, ast.Assign)
+                self.assertTrue(iterated or taken or kept, f"{path}:{node.lineno}")
+
+    def test_no_name_is_a_method_and_an_attribute(self):
+        methods, attributes = {}, {}
+        for path, source in self.sources.items():
+            for owner in [node for node in ast.parse(source).body if isinstance(node, ast.ClassDef)]:
+                for node in ast.walk(owner):
+                    if isinstance(node, ast.FunctionDef):
+                        methods.setdefault(node.name, []).append(owner.name)
+                    if isinstance(node, ast.Attribute) and isinstance(node.ctx, ast.Store):
+                        attributes.setdefault(node.attr, []).append(owner.name)
+        self.assertEqual(set(methods) & set(attributes), set())
+
     def test_no_two_files_import_from_each_other(self):
         imports = {}
         for path, source in self.sources.items():
